@@ -1,0 +1,1 @@
+"""Cell book: worlds of cells under any rule."""
