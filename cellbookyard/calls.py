@@ -1,18 +1,21 @@
-"""The calls on a world that is begun.
+"""The calls on one world that is begun.
 
 Each takes the world and the list of what is told behind the world's number,
 and gives back the list of the numbers that are answered.
 """
 
 from cellbookyard.bits import bit
+from cellbookyard.homing import way_home
+from cellbookyard.moves import flipped_across, flipped_down, shifted, turned
+from cellbookyard.past import blocks_before
 from cellbookyard.plane import ALL_CELLS, WIDTH, facts_of, leapt, stepped_often
+from cellbookyard.replies import DONE, NONE_FOUND, OUT_OF_BOUNDS, TOO_MUCH, UNFIT
 from cellbookyard.rules import TABLE_BYTES, counting_table, is_sum, table_of_bytes
+from cellbookyard.texts import MOST_BYTES, rows_of_text, text_of
 
-DONE = 0
-NO_SUCH_PLACE = -1
-UNFIT = -2
-TOO_MUCH = -3
 MOST_STEPS = 500
+MOST_STEPS_HOME = 64
+WIDEST_BLOCK = 2
 
 
 def take_rule(world, told):
@@ -40,7 +43,7 @@ def put_row(world, told):
     y = told[0]
     row = told[1]
     if not world.has_row(y) or row > ALL_CELLS:
-        return [NO_SUCH_PLACE]
+        return [OUT_OF_BOUNDS]
     world.rows[y] = row
     return [DONE]
 
@@ -50,7 +53,7 @@ def tell_cell(world, told):
     x = told[0]
     y = told[1]
     if x >= WIDTH or not world.has_row(y):
-        return [NO_SUCH_PLACE]
+        return [OUT_OF_BOUNDS]
     return [bit(world.rows[y], x)]
 
 
@@ -59,7 +62,7 @@ def set_cell(world, told):
     x = told[0]
     y = told[1]
     if x >= WIDTH or not world.has_row(y):
-        return [NO_SUCH_PLACE]
+        return [OUT_OF_BOUNDS]
     emptied = world.rows[y] & (ALL_CELLS ^ (1 << x))
     world.rows[y] = emptied if told[2] == 0 else emptied | (1 << x)
     return [DONE]
@@ -87,6 +90,64 @@ def tell_facts(world, told):
     return [DONE] + facts_of(world.rows)
 
 
+def shift_cells(world, told):
+    """shift: all cells by so much."""
+    world.rows = shifted(world.rows, told[0], told[1])
+    return [DONE]
+
+
+def flip_cells(world, told):
+    """flip: left and right, or top and bottom, change places."""
+    how = told[0]
+    if how > 1:
+        return [OUT_OF_BOUNDS]
+    world.rows = flipped_across(world.rows) if how == 0 else flipped_down(world.rows)
+    return [DONE]
+
+
+def turn_cells(world, told):
+    """turn: a quarter round, where there are as many rows as cells in a row."""
+    if len(world.rows) != WIDTH:
+        return [UNFIT]
+    world.rows = turned(world.rows)
+    return [DONE]
+
+
+def tell_home(world, told):
+    """home: after how many steps, and where, the world comes home."""
+    most = told[0]
+    if most > MOST_STEPS_HOME:
+        return [TOO_MUCH]
+    found = way_home(world.rows, world.table, most)
+    return [NONE_FOUND] if found is None else [DONE] + found
+
+
+def tell_before(world, told):
+    """before: the blocks that lead to the world's block."""
+    w = told[0]
+    h = told[1]
+    if w < 1 or w > WIDEST_BLOCK or h < 1 or h > min(WIDEST_BLOCK, len(world.rows)):
+        return [OUT_OF_BOUNDS]
+    return [DONE] + blocks_before(world.rows, world.table, w, h)
+
+
+def write_text(world, told):
+    """write: the world's text."""
+    return [DONE] + text_of(world.rows)
+
+
+def read_text(world, told):
+    """read: the cells that a text tells."""
+    text = told[0]
+    if len(text) > MOST_BYTES:
+        return [TOO_MUCH]
+    rows = rows_of_text(text, len(world.rows))
+    if rows is None:
+        return [UNFIT]
+    world.rows = rows
+    return [DONE]
+
+
 ACTIONS = {
     2: take_rule,
     3: take_counts,
@@ -97,6 +158,13 @@ ACTIONS = {
     8: take_steps,
     9: take_leap,
     10: tell_facts,
+    11: shift_cells,
+    12: flip_cells,
+    13: turn_cells,
+    17: tell_home,
+    18: tell_before,
+    19: write_text,
+    20: read_text,
 }
 
 

@@ -1,10 +1,13 @@
 """Reading calls from the list of numbers in which they stand one behind another."""
 
 # How many whole numbers stand behind each call's own number, the world's among them.
-PLAIN_NUMBERS = {1: 2, 2: 1, 3: 3, 4: 1, 5: 3, 6: 3, 7: 4, 8: 2, 9: 2, 10: 1}
+PLAIN_NUMBERS = {
+    1: 2, 2: 1, 3: 3, 4: 1, 5: 3, 6: 3, 7: 4, 8: 2, 9: 2, 10: 1,
+    11: 3, 12: 2, 13: 1, 14: 3, 15: 2, 16: 5, 17: 2, 18: 3, 19: 1, 20: 1,
+}
 
 # The calls behind whose whole numbers a row stands, with how many numbers it has before it.
-WITH_ROW = (2,)
+WITH_ROW = (2, 20)
 
 
 class Reader:

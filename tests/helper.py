@@ -1,6 +1,6 @@
-"""What the tests share: calls as lists of numbers, answers split call by call, and steps told anew.
+"""What the tests share: calls as lists of numbers, answers split call by call, steps and moves told anew.
 
-The steps here follow the document's words cell by cell, and use nothing of the package but `answers`.
+Steps and moves here follow the document's words cell by cell, and use nothing of the package but `answers`.
 """
 
 import random
@@ -9,6 +9,8 @@ from cellbookyard.book import answers
 
 TOP = 4294967295
 LEAP_TOP = 18446744073709551615
+SHIFT_LEAST = -2147483648
+SHIFT_TOP = 2147483647
 LIFE = (8, 12)
 OWN_BIT = 4
 
@@ -53,6 +55,48 @@ def facts(world):
     return [10, world]
 
 
+def shift(world, dx, dy):
+    return [11, world, dx, dy]
+
+
+def flip(world, how):
+    return [12, world, how]
+
+
+def turn(world):
+    return [13, world]
+
+
+def with_other(world, second, f):
+    return [14, world, second, f]
+
+
+def same(world, second):
+    return [15, world, second]
+
+
+def find(world, second, w, h, k):
+    return [16, world, second, w, h, k]
+
+
+def home(world, most):
+    return [17, world, most]
+
+
+def before(world, w, h):
+    return [18, world, w, h]
+
+
+def write(world):
+    return [19, world]
+
+
+def read(world, text):
+    """text: its signs, or its bytes as a list."""
+    listed = [ord(sign) for sign in text] if isinstance(text, str) else text
+    return [20, world, len(listed)] + listed
+
+
 def made(world, cells):
     """The calls that begin a world and give it these rows."""
     return [begin(world, len(cells))] + [put(world, y, row) for y, row in enumerate(cells)]
@@ -86,6 +130,14 @@ def last(calls):
     return ask(calls)[-1]
 
 
+def after(cells, calls):
+    """The rows of world 0, made of these cells, after some calls, which are all to be done."""
+    told = ask(made(0, cells) + calls + [rows(0)])
+    if told[:-1] != [[0]] * (len(told) - 1):
+        raise ValueError(f"refused: {told}")
+    return told[-1][1:]
+
+
 def cell_of(cells, x, y):
     return (cells[y % len(cells)] >> (x % 16)) & 1
 
@@ -117,6 +169,20 @@ def step_by_counts(cells, born, stays):
         c = sum(cell_of(cells, x + i, y + j) for i, j in around)
         return ((stays if cell_of(cells, x, y) else born) >> c) & 1
     return rows_by(cells, becomes)
+
+
+def moved(cells, goes_to):
+    """The rows in which each cell (x, y) has gone to goes_to(x, y), taken around."""
+    result = [0] * len(cells)
+    for y in range(len(cells)):
+        for x in range(16):
+            to_x, to_y = goes_to(x, y)
+            result[to_y % len(cells)] += cell_of(cells, x, y) << (to_x % 16)
+    return result
+
+
+def shifted(cells, dx, dy):
+    return moved(cells, lambda x, y: (x + dx, y + dy))
 
 
 def table_by(bit_of):

@@ -34,6 +34,8 @@ UNUSED_WORDS = set(
 )
 UNUSED_PARTS = ("dataclass", "overload", "contextmanager")
 KINDS = (str, int, list, dict, tuple, set, bytes)
+WALKED = ("zip", "enumerate", "reversed", "range", "items", "keys", "values")
+WALKERS = ("list", "tuple", "dict", "sorted", "sum", "any", "all", "enumerate", "zip", "min", "max")
 
 
 def bound_names(tree):
@@ -49,6 +51,31 @@ def bound_names(tree):
             yield node.asname or node.name
 
 
+def called_name(node):
+    """The name of the function or method that a call calls."""
+    return node.func.id if isinstance(node.func, ast.Name) else getattr(node.func, "attr", "")
+
+
+def is_plain(node, functions):
+    """Whether a value of a file's top is one of those that may stand there."""
+    if isinstance(node, (ast.List, ast.Tuple)):
+        return all(is_plain(part, functions) for part in node.elts)
+    if isinstance(node, ast.Dict):
+        return all(is_plain(part, functions) for part in node.keys + node.values)
+    if isinstance(node, ast.UnaryOp):
+        return isinstance(node.op, ast.USub) and isinstance(node.operand, ast.Constant)
+    return isinstance(node, ast.Constant) or (isinstance(node, ast.Name) and node.id in functions)
+
+
+def only_read(node, above):
+    """Whether a list or dict of a file's top is read where it stands: by an index, a walk, or `in`."""
+    if isinstance(above, ast.Subscript):
+        return above.value is node and isinstance(above.ctx, ast.Load)
+    if isinstance(above, ast.Compare):
+        return node in above.comparators
+    return isinstance(above, (ast.For, ast.comprehension)) and above.iter is node
+
+
 class LanguageTest(unittest.TestCase):
     def setUp(self):
         self.texts = {path: path.read_text(encoding="utf-8") for path in FILES}
@@ -58,6 +85,12 @@ class LanguageTest(unittest.TestCase):
         for path, tree in self.trees.items():
             for node in ast.walk(tree):
                 yield f"{path.name}:{getattr(node, 'lineno', 0)}", node
+
+    def pairs(self):
+        """Every node with the one above it."""
+        for where, above in self.nodes():
+            for node in ast.iter_child_nodes(above):
+                yield where, node, above
 
     def test_files(self):
         self.assertIn(FOLDER / "__init__.py", FILES)
@@ -133,6 +166,74 @@ class LanguageTest(unittest.TestCase):
                 defined += [part.targets[0].id for part in self.trees[source].body if isinstance(part, ast.Assign)]
                 for name in node.names:
                     self.assertIn(name.name, defined, where)
+
+    def test_imports_go_one_way(self):
+        drawn = {}
+        for path, tree in self.trees.items():
+            drawn[path.stem] = {node.module.split(".")[-1] for node in tree.body if isinstance(node, ast.ImportFrom)}
+        self.assertEqual(drawn["__init__"], set())
+        while drawn:
+            free = [name for name, sources in drawn.items() if not sources & set(drawn)]
+            self.assertNotEqual(free, [], drawn)
+            drawn = {name: sources for name, sources in drawn.items() if name not in free}
+
+    def test_the_top_of_a_file(self):
+        for path, tree in self.trees.items():
+            bound = []
+            functions = []
+            self.assertIsNotNone(ast.get_docstring(tree), path.name)
+            for part in tree.body[1:]:
+                self.assertIsInstance(part, (ast.ImportFrom, ast.FunctionDef, ast.ClassDef, ast.Assign), path.name)
+                if isinstance(part, ast.FunctionDef):
+                    functions.append(part.name)
+                if isinstance(part, ast.Assign):
+                    self.assertTrue(is_plain(part.value, functions), path.name)
+                    bound.append(part.targets[0].id)
+                elif isinstance(part, ast.ImportFrom):
+                    bound += [name.name for name in part.names]
+                else:
+                    bound.append(part.name)
+            self.assertEqual(sorted(bound), sorted(set(bound)), path.name)
+
+    def test_lists_and_dicts_of_the_top_are_only_read(self):
+        kept = [part.targets[0].id for tree in self.trees.values() for part in tree.body
+                if isinstance(part, ast.Assign) and isinstance(part.value, (ast.List, ast.Dict, ast.Tuple))]
+        self.assertIn("ACTIONS", kept)
+        for where, node, above in self.pairs():
+            if isinstance(node, ast.Name) and node.id in kept and isinstance(node.ctx, ast.Load):
+                self.assertTrue(only_read(node, above), where)
+
+    def test_locals_are_not_called_like_imports_or_classes(self):
+        for path, tree in self.trees.items():
+            taken = {name.name for node in tree.body if isinstance(node, ast.ImportFrom) for name in node.names}
+            taken |= {node.name for node in tree.body if isinstance(node, ast.ClassDef)}
+            for node in ast.walk(tree):
+                if isinstance(node, ast.FunctionDef):
+                    own = {part.arg for part in ast.walk(node) if isinstance(part, ast.arg)}
+                    own |= {part.id for part in ast.walk(node)
+                            if isinstance(part, ast.Name) and isinstance(part.ctx, ast.Store)}
+                    self.assertEqual(own & taken, set(), f"{path.name}: {node.name}")
+
+    def test_no_annotations(self):
+        for where, node in self.nodes():
+            self.assertIsNone(getattr(node, "annotation", None), where)
+            self.assertIsNone(getattr(node, "returns", None), where)
+
+    def test_names_of_pythons_own_are_called(self):
+        for where, node, above in self.pairs():
+            if isinstance(node, ast.Name) and hasattr(builtins, node.id):
+                self.assertIsInstance(above, ast.Call, where)
+                self.assertIs(above.func, node, where)
+                self.assertEqual(above.keywords, [], where)
+
+    def test_walked_at_once(self):
+        for where, node, above in self.pairs():
+            if isinstance(node, ast.Call) and called_name(node) in WALKED:
+                if isinstance(above, ast.Call):
+                    self.assertIn(called_name(above), WALKERS, where)
+                else:
+                    self.assertIsInstance(above, (ast.For, ast.comprehension), where)
+                    self.assertIs(above.iter, node, where)
 
     def test_names(self):
         for path, tree in self.trees.items():

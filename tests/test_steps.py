@@ -3,22 +3,14 @@
 import unittest
 
 from helper import (
-    LEAP_TOP, LIFE, TOP, ask, begin, counts, last, leap, made, rows, rule, some_rows, some_table, step_by_counts,
-    step_by_table, steps, sum_table, table_by, with_bit_turned,
+    LEAP_TOP, LIFE, TOP, after, ask, begin, counts, last, leap, made, rows, rule, some_rows, some_table,
+    step_by_counts, step_by_table, steps, sum_table, table_by, with_bit_turned,
 )
 
 SIZES = (1, 2, 3, 4, 5, 7, 8, 11, 15, 16)
 
 # The cell itself; one neighbour; left and right; four around; all nine; eight around; corners; none.
 MASKS = (16, 1, 256, 40, 170, 511, 495, 325, 0, 187, 83)
-
-
-def after(cells, calls):
-    """The rows of a world of these cells after some calls on it, which are all to be done."""
-    told = ask(made(0, cells) + calls + [rows(0)])
-    if told[:-1] != [[0]] * (len(told) - 1):
-        raise ValueError(f"refused: {told}")
-    return told[-1][1:]
 
 
 class StepsTest(unittest.TestCase):
